@@ -39,3 +39,30 @@ def has_self(board, who):
 def has_act(board, place, number):
     """Tell whether there is such a place, and such an act at it."""
     return has_place(board, place) and number < len(board.acts[place])
+
+
+def has_stand(board, stand):
+    """Tell whether there is such a place, and such a self, as a stand names."""
+    return has_place(board, stand[0]) and has_self(board, stand[1])
+
+
+def copy_of_act(act):
+    """Give an act of its own that is like the one given."""
+    copied = Act(list(act.pays), list(act.weights))
+    copied.into = act.into
+    copied.locks = act.locks
+    return copied
+
+
+def copies_of_acts(acts):
+    """Give acts of their own that are like the ones given."""
+    return [copy_of_act(act) for act in acts]
+
+
+def copy_of_board(board):
+    """Give a board of its own that is like the one given, so that it can be tried what would be."""
+    copied = Board()
+    copied.places = board.places
+    copied.selves = board.selves
+    copied.acts = [copies_of_acts(acts) for acts in board.acts]
+    return copied

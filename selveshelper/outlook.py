@@ -38,14 +38,19 @@ def lock_behind(act, locked):
     return max(act.locks, locked)
 
 
-def brought_by(act, stand, light, later):
-    """Give what an act brings at a stand by the lights of self light, in parts PARTS times as fine as later's."""
+def stands_behind(act, stand):
+    """Give each stand to which an act may lead, and how likely it does: so many of PARTS."""
     who = self_behind(act, stand[1], stand[2])
     locked = lock_behind(act, stand[2])
     share = PARTS // sum(act.weights)
+    return [((place, who, locked), weight * share) for place, weight in enumerate(act.weights)]
+
+
+def brought_by(act, stand, light, later):
+    """Give what an act brings at a stand by the lights of self light, in parts PARTS times as fine as later's."""
     brought = act.pays[light] * PARTS * later.scale
-    for place, weight in enumerate(act.weights):
-        brought += weight * share * later.worths[(place, who, locked)][light]
+    for behind, likely in stands_behind(act, stand):
+        brought += likely * later.worths[behind][light]
     return brought
 
 
@@ -65,12 +70,19 @@ def all_bests(amounts):
     return [number for number, amount in enumerate(amounts) if amount == most]
 
 
-def worths_at(board, stand, later):
-    """Give what a stand is worth by each self's lights, with one step more than later has."""
+def act_done(board, stand, later):
+    """Give the act that is done at a stand, with one step more than later has; None if there is none."""
     amounts = brought_for_itself(board, stand, later)
     if len(amounts) == 0:
+        return None
+    return board.acts[stand[0]][first_best(amounts)]
+
+
+def worths_at(board, stand, later):
+    """Give what a stand is worth by each self's lights, with one step more than later has."""
+    done = act_done(board, stand, later)
+    if done is None:
         return [0] * board.selves
-    done = board.acts[stand[0]][first_best(amounts)]
     return [brought_by(done, stand, light, later) for light in range(board.selves)]
 
 
@@ -90,9 +102,14 @@ def one_step_more(board, later):
     return Outlook(PARTS * later.scale, worths)
 
 
+def outlooks_up_to(board, steps):
+    """Give the outlooks with 0 steps left, 1, and so on, the last with so many as are told."""
+    outlooks = [no_steps_left(board)]
+    for step in range(steps):
+        outlooks.append(one_step_more(board, outlooks[step]))
+    return outlooks
+
+
 def outlook_with(board, steps):
     """Give the outlook with so many steps left."""
-    outlook = no_steps_left(board)
-    for step in range(steps):
-        outlook = one_step_more(board, outlook)
-    return outlook
+    return outlooks_up_to(board, steps)[steps]

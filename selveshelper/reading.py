@@ -10,6 +10,15 @@ ACTS = 6
 DOES = 7
 BESTS = 8
 WORTH = 9
+BRINGS = 10
+LIGHTS = 11
+IDEAL = 12
+SHORT = 13
+AFTER = 14
+SELVES = 15
+TURNS = 16
+NEVER = 17
+IFTURN = 18
 IFPAY = 19
 
 # By a call's number: how many numbers it has, without its row.

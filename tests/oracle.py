@@ -56,6 +56,49 @@ class Scene:
                 for pays, weights, turn, lock in self.acts[place])
         return self.known[key]
 
+    def after(self, place, who, locked, steps):
+        """Stand to likelihood, only the stands that may come; walked path by path."""
+        if steps == 0 or not self.acts[place]:
+            return {(place, who, locked): Fraction(1)}
+        key = ("after", place, who, locked, steps)
+        if key not in self.known:
+            pays, weights, turn, lock = self.acts[place][self.bests(place, who, locked, steps)[0]]
+            then = turn - 1 if turn and not locked else who
+            held = 1 if locked or lock else 0
+            found = {}
+            for q in range(self.places):
+                if weights[q]:
+                    for stand, likely in self.after(q, then, held, steps - 1).items():
+                        found[stand] = found.get(stand, 0) + Fraction(weights[q], sum(weights)) * likely
+            self.known[key] = found
+        return self.known[key]
+
+    def turns(self, who, steps):
+        found = []
+        for place in range(self.places):
+            bests = self.bests(place, who, 0, steps)
+            if bests and self.acts[place][bests[0]][2] not in (0, who + 1):
+                found.append(place)
+        return found
+
+    def never(self, who, steps):
+        return 0 if any(self.turns(who, k) for k in range(1, steps + 1)) else 1
+
+    def changed(self, place, number, pays=None, turn=None):
+        """Another scene, in which one act has these pays, or turns so."""
+        acts = [list(here) for here in self.acts]
+        old = acts[place][number]
+        acts[place][number] = (old[0] if pays is None else pays, old[1], old[2] if turn is None else turn, old[3])
+        return Scene(self.places, self.selves, acts)
+
+    def with_turn(self, place, number, turn):
+        return self.changed(place, number, turn=turn)
+
+    def with_pay(self, place, number, light, pay):
+        pays = list(self.acts[place][number][0])
+        pays[light] = pay
+        return self.changed(place, number, pays=pays)
+
 
 def random_weights(draw, places):
     while True:

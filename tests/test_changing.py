@@ -57,6 +57,9 @@ class NotBegun(unittest.TestCase):
         ("after", 0, 0, 0, 1), ("selves", 0, 0, 0, 1), ("turns", 0, 1), ("never", 0, 1),
         ("ifturn", 0, 0, 0, 0, 0, 1), ("ifpay", 0, 0, 0, 0, 0, 1, [1]),
         ("ifpay", 0, 0, 0, 0, 0, 1, []), ("ifpay", 9, 9, 9, 9, 9, 9, [HUGE, -HUGE, 0, 1]),
+        ("brings", 9, 9, 9, 9, 9, 9), ("lights", 9, 9, 9, 9), ("ideal", 9, 9, 9), ("short", 9, 9, 9, 9),
+        ("after", 9, 9, 9, 9), ("selves", 9, 9, 9, 9), ("turns", BIG, 0), ("never", BIG, BIG),
+        ("ifturn", 9, 9, 9, 9, 9, 9),
     )
 
     def test_each_call_alone(self):

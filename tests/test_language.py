@@ -17,7 +17,7 @@ EXPRESSIONS = (
 )
 BUILT_IN = (
     "len", "range", "enumerate", "zip", "min", "max", "sum", "abs", "sorted", "reversed", "int", "str", "bool",
-    "list", "tuple", "dict", "isinstance", "any", "all", "divmod", "NotImplementedError",
+    "list", "tuple", "dict", "isinstance", "any", "all", "divmod",
 )
 METHODS = (
     "append", "clear", "copy", "count", "extend", "get", "index", "insert", "items", "join", "keys", "pop",
@@ -72,8 +72,11 @@ class Language(unittest.TestCase):
                 self.assertNotIsInstance(node.targets[0], (ast.Tuple, ast.List), (name, node.lineno))
             if isinstance(node, (ast.While, ast.For)):
                 self.assertEqual(node.orelse, [])
-            if isinstance(node, (ast.Div, ast.Pow, ast.MatMult, ast.Is, ast.IsNot)):
+            if isinstance(node, (ast.Div, ast.Pow, ast.MatMult)):
                 self.fail((name, node))
+            if isinstance(node, ast.Compare) and isinstance(node.ops[0], (ast.Is, ast.IsNot)):
+                self.assertIsInstance(node.comparators[0], ast.Constant, (name, node.lineno))
+                self.assertIn(node.comparators[0].value, (None, True, False), (name, node.lineno))
             if isinstance(node, ast.FormattedValue):
                 self.assertIsInstance(node.value, ast.Name)
             if isinstance(node, ast.ListComp):
